@@ -1,0 +1,1 @@
+"""BGP route server with per-member policies for an Internet exchange point."""

@@ -10,9 +10,13 @@ MAX_DENIED = 1
 MAX_PREFERENCE = 9
 
 
+def are_equal(table, other):
+    return [route.compared_by() for route in table] == [route.compared_by() for route in other]
+
+
 def changed_since(server, tables_before):
     tables_now = server.routing_tables()
-    changed = [member for member, table in enumerate(tables_now) if table != tables_before[member]]
+    changed = [member for member, table in enumerate(tables_now) if not are_equal(table, tables_before[member])]
     return [len(changed)] + changed
 
 
@@ -54,6 +58,14 @@ def withdraw(server, member, address, length):
         return [NO_ROUTE]
     tables_before = server.routing_tables()
     server.routes.pop(place)
+    return changed_since(server, tables_before)
+
+
+def withdraw_all(server, member):
+    if not server.has_member(member):
+        return [NO_MEMBER]
+    tables_before = server.routing_tables()
+    server.routes = [route for route in server.routes if route.announcer != member]
     return changed_since(server, tables_before)
 
 

@@ -1,4 +1,4 @@
-"""What counts as an ASN, a prefix and an AS path."""
+"""What counts as an ASN, an address, a prefix and an AS path."""
 
 MAX_ASN = 9999
 MAX_PATH_LENGTH = 6
@@ -10,11 +10,19 @@ def is_asn(number):
     return 1 <= number <= MAX_ASN
 
 
+def is_address(number):
+    return number < ADDRESS_COUNT
+
+
+def size_of_prefix(length):
+    return ADDRESS_COUNT >> length
+
+
 def is_prefix(address, length):
     # The length is looked at first: only up to 8 bits does a prefix contain any address to divide by.
-    if length > ADDRESS_BITS or address >= ADDRESS_COUNT:
+    if length > ADDRESS_BITS or not is_address(address):
         return False
-    return address % (ADDRESS_COUNT >> length) == 0
+    return address % size_of_prefix(length) == 0
 
 
 def is_as_path(as_path, announcer_asn):

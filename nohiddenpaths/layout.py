@@ -9,9 +9,17 @@ SET_IMPORT = 5
 SET_PREFERENCE = 6
 BEST_ROUTE = 7
 ELIGIBLE_ROUTES = 8
+ROUTING_TABLE = 9
+LOOKUP = 10
+REACHABLE_ADDRESSES = 11
+USERS_OF = 12
+PREVIEW_WITHDRAW = 13
+WITHDRAW_ALL = 14
+ANNOUNCED_PREFIXES = 15
+MEMBER_ROUTES = 16
+MEMBER_POLICY = 17
 
 # By the number of the call: how many whole numbers follow it, a list and its count left out.
-# All calls of the interface stand here, because before a reset each of them is answered.
 ARGUMENT_COUNTS = (0, 1, 3, 3, 3, 3, 3, 3, 3, 1, 2, 1, 1, 3, 1, 0, 1, 1)
 
 

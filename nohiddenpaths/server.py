@@ -1,5 +1,7 @@
 """The state of a route server, and the routing tables that follow from it."""
 
+from nohiddenpaths.checks import size_of_prefix
+
 INITIAL_PREFERENCE = 5
 
 
@@ -11,17 +13,17 @@ class Member:
         self.import_denials = {}
         self.preferences = {}
 
-    def exports_to(self, peer):
-        return self.export_denials.get(peer, 0) == 0
+    def export_denied(self, peer):
+        return self.export_denials.get(peer, 0)
 
-    def imports_from(self, peer):
-        return self.import_denials.get(peer, 0) == 0
+    def import_denied(self, peer):
+        return self.import_denials.get(peer, 0)
 
     def preference_for(self, peer):
         return self.preferences.get(peer, INITIAL_PREFERENCE)
 
 
-# Never changed once it is made, so that the rows of a routing table may hold its AS path.
+# Never changed once it is made, so that a routing table from before a change still shows what it held then.
 class Route:
     def __init__(self, announcer, address, length, as_path):
         self.announcer = announcer
@@ -32,11 +34,25 @@ class Route:
     def is_for(self, address, length):
         return self.address == address and self.length == length
 
+    def contains(self, destination):
+        return self.address <= destination < self.address + size_of_prefix(self.length)
+
+    # The AS path is among them: a table in which nothing but a path is new counts as changed.
+    def compared_by(self):
+        return (self.address, self.length, self.announcer, self.as_path)
+
 
 class RouteServer:
     def __init__(self):
         self.members = []
         self.routes = []
+
+    # For changes that are only tried out. The members are shared with it, so only its routes may be changed.
+    def with_own_routes(self):
+        server = RouteServer()
+        server.members = self.members
+        server.routes = list(self.routes)
+        return server
 
     def has_member(self, member):
         return member < len(self.members)
@@ -53,9 +69,9 @@ class RouteServer:
     def is_eligible(self, route, member):
         if route.announcer == member:
             return False
-        if not self.members[route.announcer].exports_to(member):
+        if self.members[route.announcer].export_denied(member) == 1:
             return False
-        if not self.members[member].imports_from(route.announcer):
+        if self.members[member].import_denied(route.announcer) == 1:
             return False
         return self.members[member].asn not in route.as_path
 
@@ -72,13 +88,12 @@ class RouteServer:
     def prefixes_in_order(self):
         return sorted(set([(route.address, route.length) for route in self.routes]))
 
-    # A row has the AS path, too: a table in which nothing but a path is new counts as changed.
     def routing_table(self, member):
         table = []
         for address, length in self.prefixes_in_order():
             ranked = self.ranked_routes(member, address, length)
             if ranked:
-                table.append((address, length, ranked[0].announcer, ranked[0].as_path))
+                table.append(ranked[0])
         return table
 
     def routing_tables(self):

@@ -2,11 +2,9 @@
 
 import unittest
 
-from nohiddenpaths import changes
-from nohiddenpaths.server import RouteServer
 from tests.helper import (
-    LARGEST, WRONG_PREFIXES, ExchangeCase, announce, best_route, eligible_routes, exchange_of, full_exchange, run,
-    set_export, set_preference, withdraw,
+    LARGEST, WRONG_PREFIXES, ExchangeCase, announce, best_route, eligible_routes, exchange_of, full_exchange,
+    member_routes, run, set_export, set_preference, withdraw,
 )
 
 WRONG_PATHS = [
@@ -86,15 +84,10 @@ class AnnounceAgain(ExchangeCase):
         self.assertEqual(found[-2:], [[2, 1, 2], [-6]])
 
     def test_route_keeps_its_place_in_the_list(self):
-        server = RouteServer()
-        changes.add_member(server, 100)
-        for address in [128, 0, 64]:
-            changes.announce(server, 0, address, 2, [100])
-        changes.announce(server, 0, 128, 2, [100, 7])
-        changes.announce(server, 0, 192, 2, [100])
-        changes.announce(server, 0, 0, 2, [100, 8])
-        places = [(route.address, route.as_path) for route in server.routes]
-        self.assertEqual(places, [(128, [100, 7]), (0, [100, 8]), (64, [100]), (192, [100])])
+        calls = exchange_of(1) + [announce(0, address, 2, [100]) for address in [128, 0, 64]]
+        calls.extend([announce(0, 128, 2, [100, 7]), announce(0, 192, 2, [100]), announce(0, 0, 2, [100, 8])])
+        self.assert_last(calls + [member_routes(0)],
+                         [4, 128, 2, 2, 100, 7, 0, 2, 2, 100, 8, 64, 2, 1, 100, 192, 2, 1, 100])
 
 
 class AnnounceRefused(ExchangeCase):

@@ -3,8 +3,9 @@
 import unittest
 
 from tests.helper import (
-    LARGEST, ExchangeCase, add_member, announce, best_route, eligible_routes, exchange_of, reset, run,
-    set_export, set_import, set_preference, withdraw,
+    LARGEST, ExchangeCase, add_member, announce, announced_prefixes, best_route, eligible_routes, exchange_of, lookup,
+    member_policy, member_routes, preview_withdraw, reachable_addresses, reset, routing_table, run, set_export,
+    set_import, set_preference, users_of, withdraw, withdraw_all,
 )
 
 
@@ -48,14 +49,24 @@ class AddMember(ExchangeCase):
 class FewMembers(ExchangeCase):
     def test_no_members(self):
         for call in [announce(0, 0, 0, [100]), withdraw(0, 0, 0), set_export(0, 0, 0), set_import(0, 1, 0),
-                     set_preference(1, 0, 5), best_route(0, 0, 0), eligible_routes(0, 0, 0)]:
+                     set_preference(1, 0, 5), best_route(0, 0, 0), eligible_routes(0, 0, 0), routing_table(0),
+                     lookup(0, 0), reachable_addresses(0), users_of(0), preview_withdraw(0, 0, 0), withdraw_all(0),
+                     member_routes(0), member_policy(0)]:
             self.assert_refused([reset()], call, -2)
+        self.assert_last([reset(), announced_prefixes()], [0])
 
     def test_one_member(self):
         calls = exchange_of(1) + [announce(0, 0, 0, [100]), announce(0, 0, 0, [100, 900]), best_route(0, 0, 0),
                                   eligible_routes(0, 0, 0), set_export(0, 0, 0), set_import(0, 1, 0),
                                   set_preference(0, 0, 5), withdraw(0, 0, 0), withdraw(0, 0, 0)]
         self.assertEqual(run(calls)[2:], [[0], [0], [-33], [0], [-22], [-2], [-22], [0], [-6]])
+
+    def test_reports_on_one_member(self):
+        calls = exchange_of(1) + [announce(0, 0, 0, [100]), routing_table(0), lookup(0, 0), reachable_addresses(0),
+                                  users_of(0), preview_withdraw(0, 0, 0), announced_prefixes(), member_routes(0),
+                                  member_policy(0), withdraw_all(0), withdraw_all(0), announced_prefixes()]
+        self.assertEqual(run(calls)[3:], [[0], [-33], [0], [0], [0], [1, 0, 0], [1, 0, 0, 1, 100], [100, 0, 0, 5],
+                                          [0], [0], [0]])
 
 
 if __name__ == "__main__":

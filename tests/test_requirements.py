@@ -1,234 +1,306 @@
-"""Long mixed sequences against a model that follows the document's words, without the program's own parts."""
+"""The document's points 1 to 7, asked of states that many calls have made, by what the program reports of them."""
 
 import random
 import unittest
 
 from tests.helper import (
-    LARGEST, add_member, announce, best_route, eligible_routes, reset, run,
-    set_export, set_import, set_preference, withdraw,
+    LARGEST, MIXED_ASNS, MIXED_PREFIXES, add_member, announce, announced_prefixes, best_route, chosen_call,
+    chosen_change, eligible_routes, full_exchange, is_better, lookup, member_policy, member_routes, preview_withdraw,
+    reachable_addresses, reset, routing_table, run, set_export, set_import, set_preference, users_of, withdraw,
+    withdraw_all,
 )
 
-ASNS = [100, 50, 9999, 1, 300, 20]
-PREFIXES = [(0, 0), (0, 1), (128, 1), (0, 2), (255, 8)]
+MEMBERS = range(6)
+REPORTS = (7, 8, 9, 10, 11, 12, 13, 15, 16, 17)
 
 
-def is_better(first, second):
-    """Each of the two is (preference, number of elements of the path, ASN)."""
-    if first[0] != second[0]:
-        return first[0] > second[0]
-    if first[1] != second[1]:
-        return first[1] < second[1]
-    return first[2] < second[2]
+def in_threes(numbers):
+    return [tuple(numbers[place:place + 3]) for place in range(0, len(numbers), 3)]
 
 
-class Model:
-    """The state after a reset, and which calls the document accepts."""
+def routes_apart(numbers):
+    """The (address, length, path) of each route from an answer of member_routes."""
+    found = []
+    place = 1
+    while place < len(numbers):
+        address, length, count = numbers[place:place + 3]
+        found.append((address, length, numbers[place + 3:place + 3 + count]))
+        place = place + 3 + count
+    if len(found) != numbers[0]:
+        raise ValueError("the count of the routes does not fit")
+    return found
 
-    def __init__(self):
-        self.asns = []
-        self.routes = {}
-        self.no_export = set()
-        self.no_import = set()
-        self.preferences = {}
 
-    def eligible(self, member, prefix):
+class Shown:
+    """What is reported of the state behind some calls; two that report the same are equal."""
+
+    def __init__(self, calls):
+        reports = [report(member) for report in [member_policy, member_routes, routing_table] for member in MEMBERS]
+        self.found = run(calls + reports + [announced_prefixes()])[len(calls):]
+        self.asns = [found[0] for found in self.found[:6]]
+        self.policies = [in_threes(found[1:]) for found in self.found[:6]]
+        self.routes = [routes_apart(found) for found in self.found[6:12]]
+        self.tables = [in_threes(found[1:]) for found in self.found[12:18]]
+
+    def path(self, announcer, address, length):
+        return [path for *prefix, path in self.routes[announcer] if prefix == [address, length]][0]
+
+    def is_eligible(self, announcer, path, member):
+        if announcer == member or self.asns[member] in path:
+            return False
+        return self.policies[announcer][member][0] == 0 and self.policies[member][announcer][1] == 0
+
+    def eligible(self, member, address, length):
+        """(preference, length of the path, ASN, announcer) of each eligible route for the prefix."""
         found = []
-        for (announcer, announced), path in self.routes.items():
-            if announced == prefix and announcer != member and self.asns[member] not in path:
-                if (announcer, member) not in self.no_export and (member, announcer) not in self.no_import:
-                    found.append(announcer)
+        for announcer in MEMBERS:
+            for *prefix, path in self.routes[announcer]:
+                if prefix == [address, length] and self.is_eligible(announcer, path, member):
+                    preference = self.policies[member][announcer][2]
+                    found.append((preference, len(path), self.asns[announcer], announcer))
         return found
 
-    def strength(self, member, announcer, prefix):
-        path = self.routes[(announcer, prefix)]
-        return (self.preferences.get((member, announcer), 5), len(path), self.asns[announcer])
+    def rows(self, member):
+        """The rows of the table with their paths."""
+        return [(address, length, announcer, self.path(announcer, address, length))
+                for address, length, announcer in self.tables[member]]
 
-    def best_first(self, member, prefix):
-        left = self.eligible(member, prefix)
-        ordered = []
-        while left:
-            best = left[0]
-            for other in left:
-                if is_better(self.strength(member, other, prefix), self.strength(member, best, prefix)):
-                    best = other
-            left.remove(best)
-            ordered.append(best)
-        return ordered
-
-    def table(self, member):
-        found = {}
-        for prefix in {prefix for announcer, prefix in self.routes}:
-            ordered = self.best_first(member, prefix)
-            if ordered:
-                found[prefix] = (ordered[0], self.routes[(ordered[0], prefix)])
-        return found
-
-    def exists(self, *members):
-        return all(member < len(self.asns) for member in members)
-
-    def refusal(self, call):
-        """The first error in the document's order, or 0."""
-        number, rest = call[0], call[1:]
-        if number == 1:
-            return self.refusal_of_member(rest[0])
-        if number in (4, 5, 6):
-            return self.refusal_of_policy(number, rest)
-        member, address, length = rest[:3]
-        if not self.exists(member):
-            return -2
-        if length > 8 or address > 255 or address % 2 ** (8 - length) != 0:
-            return -22
-        known = (member, (address, length)) in self.routes
-        if number == 2:
-            path = rest[4:]
-            if not 1 <= len(path) <= 6 or path[0] != self.asns[member] or len(set(path)) < len(path):
-                return -22
-            if min(path) < 1 or max(path) > 9999:
-                return -22
-            return -28 if not known and len(self.routes) == 20 else 0
-        if number == 3:
-            return 0 if known else -6
-        if number == 7 and not self.eligible(member, (address, length)):
-            return -33
-        return 0
-
-    def refusal_of_member(self, asn):
-        if asn < 1 or asn > 9999:
-            return -22
-        if asn in self.asns:
-            return -17
-        return -28 if len(self.asns) == 6 else 0
-
-    def refusal_of_policy(self, number, rest):
-        member, peer, value = rest
-        if not self.exists(member, peer):
-            return -2
-        return -22 if member == peer or value > (9 if number == 6 else 1) else 0
-
-    def apply(self, number, rest):
-        if number == 2:
-            self.routes[(rest[0], (rest[1], rest[2]))] = rest[4:]
-        if number == 3:
-            self.routes.pop((rest[0], (rest[1], rest[2])))
-        if number in (4, 5):
-            denials = self.no_export if number == 4 else self.no_import
-            denials.discard((rest[0], rest[1]))
-            if rest[2] == 1:
-                denials.add((rest[0], rest[1]))
-        if number == 6:
-            self.preferences[(rest[0], rest[1])] = rest[2]
-
-    def answer(self, call):
-        number, rest = call[0], call[1:]
-        refused = self.refusal(call)
-        if refused:
-            return [refused]
-        if number == 1:
-            self.asns.append(rest[0])
-            return [len(self.asns) - 1]
-        if number in (7, 8):
-            ordered = self.best_first(rest[0], (rest[1], rest[2]))
-            if number == 8:
-                return [len(ordered)] + ordered
-            path = self.routes[(ordered[0], (rest[1], rest[2]))]
-            return [ordered[0], len(path)] + path
-        before = [self.table(member) for member in range(len(self.asns))]
-        self.apply(number, rest)
-        changed = [member for member, table in enumerate(before) if table != self.table(member)]
-        return [len(changed)] + changed
+    def users(self, used):
+        return [member for member in MEMBERS if any(row in used for row in self.tables[member])]
 
 
-def chosen_path(source, member):
-    path = [ASNS[member % 6]] + source.sample(ASNS + [7, 8, 9], source.randrange(4))
-    if source.random() < 0.1:
-        path.append(source.choice([0, 10000, LARGEST, path[0]]))
-    return path if source.random() < 0.95 else path[1:]
+def begun_exchange():
+    return [reset()] + [add_member(asn) for asn in MIXED_ASNS]
 
 
-def chosen_call(source):
-    """Mostly calls that are accepted, and now and then one that is not."""
-    member = source.randrange(6) if source.random() < 0.97 else source.choice([6, LARGEST])
-    peer = source.randrange(6) if source.random() < 0.97 else source.choice([6, LARGEST])
-    address, length = source.choice(PREFIXES) if source.random() < 0.95 else source.choice([(1, 0), (256, 8), (0, 9)])
-    kind = source.randrange(12)
-    if kind < 4:
-        return announce(member, address, length, chosen_path(source, member))
-    if kind == 4:
-        return withdraw(member, address, length)
-    if kind < 7:
-        return source.choice([set_export, set_import])(member, peer, source.choice([0, 1, 1, 1, 2]))
-    if kind < 9:
-        return set_preference(member, peer, source.choice([0, 4, 5, 6, 9, 10]))
-    return source.choice([best_route, eligible_routes])(member, address, length)
+def states():
+    """Lists of calls that lead to states of many kinds: an empty one, half full ones, a full one."""
+    yield begun_exchange()
+    yield full_exchange() + [add_member(500), add_member(600)]
+    for seed in range(12):
+        source = random.Random(seed)
+        yield begun_exchange() + [chosen_change(source) for turn in range(15 + 10 * seed)]
 
 
-def chosen_calls(seed):
-    source = random.Random(seed)
-    calls = [add_member(asn) for asn in ASNS[:2 + seed % 5]]
-    calls.extend([chosen_call(source) for turn in range(150)])
-    calls.extend([add_member(asn) for asn in ASNS])
-    calls.extend([chosen_call(source) for turn in range(200)])
-    return calls
+def steps():
+    """A list of calls, and a call that may come behind it."""
+    for seed in range(4):
+        source = random.Random(1000 + seed)
+        calls = begun_exchange()
+        for turn in range(80):
+            call = chosen_call(source)
+            yield calls, call
+            calls = calls + [call]
 
 
-class MixedSequences(unittest.TestCase):
-    def test_model_agrees(self):
-        for seed in range(60):
-            calls = chosen_calls(seed)
-            model = Model()
-            expected = [model.answer(call) for call in calls]
-            self.assertEqual(run([reset()] + calls)[1:], expected, seed)
+class PoliciesAreRespected(unittest.TestCase):
+    def test_every_route_of_a_table_is_eligible(self):
+        rows = 0
+        for calls in states():
+            shown = Shown(calls)
+            for member in MEMBERS:
+                for address, length, announcer in shown.tables[member]:
+                    rows = rows + 1
+                    path = shown.path(announcer, address, length)
+                    self.assertTrue(shown.is_eligible(announcer, path, member), (calls, member))
+        self.assertGreater(rows, 100)
 
-    def test_every_code_occurs(self):
-        codes = set()
-        for seed in range(60):
-            codes.update([found[0] for found in run([reset()] + chosen_calls(seed)) if found[0] < 0])
-        self.assertEqual(codes, {-2, -6, -17, -22, -28, -33})
-
-
-def best_routes(calls, member_count):
-    """For each member its answers to best_route for the prefixes that are used here."""
-    asked = [best_route(member, address, length) for member in range(member_count) for address, length in PREFIXES]
-    found = run(calls + asked)[len(calls):]
-    return [found[start:start + len(PREFIXES)] for start in range(0, len(found), len(PREFIXES))]
+    def test_denying_takes_the_routes_out_of_the_table(self):
+        calls = full_exchange() + [set_export(0, 1, 1), set_import(1, 2, 1), routing_table(1)]
+        self.assertEqual(run(calls)[-1], [5, 0, 3, 3, 32, 3, 3, 64, 3, 3, 96, 3, 3, 128, 3, 3])
+        self.assertEqual(run(calls + [set_import(1, 3, 1), routing_table(1)])[-2:], [[1, 1], [0]])
 
 
-class Requirements(unittest.TestCase):
-    """What the document asks of every change, asked after each step of a shorter sequence."""
+class NoHiddenPaths(unittest.TestCase):
+    def test_table_has_the_best_for_every_prefix_with_an_eligible_route(self):
+        for calls in states():
+            shown = Shown(calls)
+            for member in MEMBERS:
+                announcers = {(address, length): announcer for address, length, announcer in shown.tables[member]}
+                for address, length in MIXED_PREFIXES + [(0, 3), (128, 3)]:
+                    eligible = shown.eligible(member, address, length)
+                    chosen = [route for route in eligible if route[3] == announcers.get((address, length))]
+                    self.assertEqual(len(chosen), min(len(eligible), 1), (calls, member))
+                    self.assertFalse(any(is_better(other, chosen[0]) for other in eligible), (calls, member))
 
-    def steps(self):
-        for seed in range(4):
-            source = random.Random(1000 + seed)
-            calls = [reset()] + [add_member(asn) for asn in ASNS]
-            for turn in range(60):
-                call = chosen_call(source)
-                yield calls, call
-                calls = calls + [call]
+    def test_best_and_eligible_routes_agree_with_the_table(self):
+        for calls in states():
+            shown = Shown(calls)
+            asked = [(member, *prefix) for member in MEMBERS for prefix in MIXED_PREFIXES]
+            reports = [report(*place) for report in [best_route, eligible_routes] for place in asked]
+            found = run(calls + reports)[len(calls):]
+            best, ordered = found[:len(asked)], found[len(asked):]
+            for place, (member, address, length) in enumerate(asked):
+                rows = [row for row in shown.rows(member) if row[:2] == (address, length)]
+                eligible = shown.eligible(member, address, length)
+                self.assertEqual(best[place], [rows[0][2], len(rows[0][3])] + rows[0][3] if rows else [-33])
+                self.assertEqual(ordered[place][0], len(eligible))
+                self.assertEqual(ordered[place][1:2], [row[2] for row in rows])
+                self.assertEqual(sorted(ordered[place][1:]), [route[3] for route in eligible])
 
-    def test_changed_members_are_those_whose_best_routes_differ(self):
-        for calls, call in self.steps():
-            before, after = best_routes(calls, 6), best_routes(calls + [call], 6)
-            differ = [member for member in range(6) if before[member] != after[member]]
+    def test_who_may_not_use_the_best_gets_the_next(self):
+        calls = full_exchange() + [set_export(0, 3, 1), set_import(2, 0, 1), announce(1, 0, 3, [200, 300])]
+        found = run(calls + [routing_table(member) for member in range(4)])[-4:]
+        self.assertEqual([answer[3] for answer in found], [2, 0, 3, 2])
+
+
+class LongestPrefixMatch(unittest.TestCase):
+    def test_every_address(self):
+        for calls in states():
+            shown = Shown(calls)
+            for member in range(0, 6, 2):
+                found = run(calls + [lookup(member, address) for address in range(256)])[len(calls):]
+                for address, answer in enumerate(found):
+                    matching = [row for row in shown.tables[member]
+                                if address in range(row[0], row[0] + 2 ** (8 - row[1]))]
+                    if matching:
+                        self.assertIn((answer[1], answer[2], answer[0]), matching)
+                        self.assertEqual(answer[2], max(row[1] for row in matching))
+                    else:
+                        self.assertEqual(answer, [-33])
+
+    def test_reachable_addresses_are_those_that_a_lookup_finds(self):
+        for calls in states():
+            for member in range(1, 6, 2):
+                found = run(calls + [lookup(member, address) for address in range(256)] + [reachable_addresses(member)])
+                self.assertEqual(found[-1], [sum(answer != [-33] for answer in found[len(calls):-1])])
+
+
+class UnusedRoutes(unittest.TestCase):
+    def assert_users_change(self, calls, used, call):
+        before, after = Shown(calls), Shown(calls + [call])
+        users = before.users(used)
+        for member in MEMBERS:
+            if member not in users:
+                self.assertEqual(after.rows(member), before.rows(member))
+            else:
+                self.assertNotEqual(after.rows(member), before.rows(member))
+        self.assertEqual(run(calls + [call])[-1], [len(users)] + users)
+        return len(users)
+
+    def test_withdraw_and_its_preview(self):
+        unused = 0
+        for calls in states():
+            for member, routes in enumerate(Shown(calls).routes):
+                for address, length, path in routes[:2]:
+                    call = withdraw(member, address, length)
+                    count = self.assert_users_change(calls, [(address, length, member)], call)
+                    unused = unused + int(count == 0)
+                    found = run(calls + [preview_withdraw(member, address, length), call])
+                    self.assertEqual(found[-2], found[-1])
+        self.assertGreater(unused, 10)
+
+    def test_withdraw_all(self):
+        for calls in states():
+            for member, routes in enumerate(Shown(calls).routes):
+                used = [(address, length, member) for address, length, path in routes]
+                self.assert_users_change(calls, used, withdraw_all(member))
+
+    def test_users_are_those_whose_tables_have_a_route(self):
+        for calls in states():
+            shown = Shown(calls)
+            found = run(calls + [users_of(member) for member in MEMBERS])[len(calls):]
+            for member, answer in enumerate(found):
+                users = shown.users([(address, length, member) for address, length, path in shown.routes[member]])
+                self.assertEqual(answer, [len(users)] + users)
+
+
+class LocalPolicies(unittest.TestCase):
+    def test_every_policy_in_every_state(self):
+        changed = 0
+        for calls in states():
+            before = Shown(calls)
+            source = random.Random(len(calls))
+            for policy, value in [(set_export, 1), (set_export, 0), (set_import, 1), (set_import, 0),
+                                  (set_preference, 0), (set_preference, 9)]:
+                member, peer = source.sample(MEMBERS, 2)
+                after = Shown(calls + [policy(member, peer, value)])
+                touched = peer if policy == set_export else member
+                differ = [other for other in MEMBERS if before.rows(other) != after.rows(other)]
+                self.assertIn(differ, ([], [touched]))
+                self.assertEqual(run(calls + [policy(member, peer, value)])[-1], [len(differ)] + differ)
+                changed = changed + len(differ)
+        self.assertGreater(changed, 10)
+
+
+class UniqueRoutes(unittest.TestCase):
+    def test_each_prefix_once(self):
+        for calls in states():
+            shown = Shown(calls)
+            for routes in shown.routes + shown.tables:
+                prefixes = [route[:2] for route in routes]
+                self.assertEqual(len(prefixes), len(set(prefixes)))
+            self.assertLessEqual(sum(len(routes) for routes in shown.routes), 20)
+
+    def test_tables_are_in_prefix_order(self):
+        for calls in states():
+            for table in Shown(calls).tables:
+                self.assertEqual(table, sorted(table, key=lambda row: row[:2]))
+
+    def test_announced_prefixes_are_those_of_the_routes(self):
+        for calls in states():
+            shown = Shown(calls)
+            prefixes = sorted({route[:2] for routes in shown.routes for route in routes})
+            expected = [len(prefixes)] + [number for prefix in prefixes for number in prefix]
+            self.assertEqual(run(calls + [announced_prefixes()])[-1], expected)
+
+    def test_announced_again_and_again(self):
+        paths = [[100, 7], [100], [100, 8, 9], [100]]
+        calls = begun_exchange() + [announce(0, 0, 1, path) for path in paths] + [announce(1, 0, 1, [50])]
+        found = run(calls + [member_routes(0), routing_table(2), routing_table(1), announced_prefixes()])
+        self.assertEqual(found[-4:], [[1, 0, 1, 1, 100], [1, 0, 1, 1], [1, 0, 1, 0], [1, 0, 1]])
+
+
+class StateIsLeftUnchanged(unittest.TestCase):
+    def test_refused_calls_and_reports_among_others(self):
+        refused, reported = set(), set()
+        for calls, call in steps():
             answered = run(calls + [call])[-1]
-            if answered[0] < 0 or call[0] in (7, 8):
+            if answered[0] < 0 or call[0] in REPORTS:
+                self.assertEqual(Shown(calls).found, Shown(calls + [call]).found, call)
+                (refused if answered[0] < 0 else reported).add(call[0])
+        self.assertEqual(reported, set(REPORTS))
+        self.assertLessEqual({2, 3, 4, 5, 6, 7, 10, 13}, refused)
+
+    def test_every_report_in_every_state(self):
+        reports = [best_route(0, 0, 0), eligible_routes(0, 0, 0), routing_table(0), lookup(0, 0), users_of(0),
+                   reachable_addresses(0), announced_prefixes(), member_routes(0), member_policy(0)]
+        reports.extend([preview_withdraw(member, address, length)
+                        for member in MEMBERS for address, length in MIXED_PREFIXES])
+        for calls in states():
+            self.assertEqual(Shown(calls).found, Shown(calls + reports).found)
+            found = run(calls + reports + reports)
+            self.assertEqual(found[len(calls):len(calls) + len(reports)], found[-len(reports):])
+
+    def test_every_refusal_in_every_state(self):
+        calls_refused = [
+            add_member(0), add_member(10000), add_member(100), add_member(77),
+            announce(6, 0, 0, [100]), announce(0, 1, 0, [100]), announce(0, 0, 0, []), announce(0, 0, 0, [LARGEST]),
+            withdraw(6, 0, 0), withdraw(0, 1, 0), withdraw(0, 254, 8),
+            set_export(0, 6, 1), set_export(0, 0, 1), set_export(0, 1, 2),
+            set_import(6, 0, 1), set_import(0, 0, 1), set_import(0, 1, 2),
+            set_preference(0, 6, 1), set_preference(1, 1, 1), set_preference(0, 1, 10),
+            best_route(6, 0, 0), best_route(0, 1, 0), best_route(0, 254, 8),
+            eligible_routes(6, 0, 0), eligible_routes(0, 0, 9), routing_table(6), lookup(6, 0), lookup(0, 256),
+            reachable_addresses(6), users_of(6), preview_withdraw(6, 0, 0), preview_withdraw(0, 1, 0),
+            preview_withdraw(0, 254, 8), withdraw_all(6), member_routes(6), member_policy(6),
+        ]
+        for calls in states():
+            found = run(calls + calls_refused)[len(calls):]
+            self.assertEqual([answer for answer in found if answer[0] >= 0 or len(answer) > 1], [])
+            self.assertEqual(Shown(calls).found, Shown(calls + calls_refused).found)
+
+
+class ChangedMembers(unittest.TestCase):
+    def test_they_are_those_whose_tables_differ(self):
+        for calls, call in steps():
+            before, after = Shown(calls), Shown(calls + [call])
+            differ = [member for member in MEMBERS if before.rows(member) != after.rows(member)]
+            answered = run(calls + [call])[-1]
+            if answered[0] < 0 or call[0] in REPORTS:
                 self.assertEqual(differ, [])
             else:
                 self.assertEqual(answered, [len(differ)] + differ)
-
-    def test_unused_routes(self):
-        for calls, call in self.steps():
-            answered = run(calls + [call])[-1]
-            if call[0] == 3 and answered[0] >= 0:
-                at = PREFIXES.index((call[2], call[3]))
-                users = [member for member, found in enumerate(best_routes(calls, 6)) if found[at][0] == call[1]]
-                self.assertEqual(answered[1:], users)
-
-    def test_local_policies(self):
-        for calls, call in self.steps():
-            answered = run(calls + [call])[-1]
-            if call[0] in (4, 5, 6) and answered[0] >= 0:
-                touched = call[2] if call[0] == 4 else call[1]
-                self.assertIn(answered, ([0], [1, touched]))
 
 
 if __name__ == "__main__":
